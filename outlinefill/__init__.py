@@ -1,0 +1,1 @@
+"""Outlines of lines and curves, filled into a picture."""
