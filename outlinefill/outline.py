@@ -42,3 +42,17 @@ class Outline:
     def lead_on(self, points):
         self.rings[-1].extend(points)
         self.point_count += len(points)
+
+    def points(self):
+        """The points of all rings."""
+        points = []
+        for ring in self.rings:
+            points.extend(ring)
+        return points
+
+    def lines(self):
+        """All steps as pairs (from, to) of points, with the line that closes each ring."""
+        lines = []
+        for ring in self.rings:
+            lines.extend(list(zip(ring, ring[1:] + ring[:1])))
+        return lines

@@ -1,5 +1,7 @@
 """A picture with its outline, and the calls on it."""
 
+from outlinefill.blend import blended_row
+from outlinefill.coverage import runs_of_place_row, samples_within, steps_by_place_row
 from outlinefill.outline import CURVE_STEPS, Outline, curve_points
 
 OUT_OF_RANGE = -2
@@ -13,9 +15,13 @@ OPEN_CALL = 1
 COLOUR_CALL = 2
 MOVE_CALL = 3
 LINE_CALL = 4
+CURVE_CALL = 5
+FILL_CALL = 6
+WITHIN_CALL = 7
+ROW_CALL = 8
 
 # By a call's number: how many numbers stand behind it. No call has the number 0.
-ARGUMENT_COUNTS = (0, 2, 5, 2, 2, 4)
+ARGUMENT_COUNTS = (0, 2, 5, 2, 2, 4, 2, 3, 1, 0)
 
 
 def is_side(number):
@@ -24,6 +30,10 @@ def is_side(number):
 
 def is_colour(number):
     return 0 <= number <= LARGEST_COLOUR
+
+
+def is_rule(number):
+    return 0 <= number <= 1
 
 
 def are_coordinates(numbers):
@@ -88,6 +98,39 @@ class Picture:
         self.outline.lead_on(curve_points(self.outline.last_point(), (cx, cy), (x, y)))
         return self.outline.point_count
 
+    def fill(self, rule, colour):
+        if not (is_rule(rule) and is_colour(colour)):
+            return OUT_OF_RANGE
+        place_count = 0
+        for y, steps in enumerate(steps_by_place_row(self.outline.lines(), self.height)):
+            # Most rows of a large picture may lie beside a small outline.
+            if len(steps) > 0:
+                runs = runs_of_place_row(steps, rule, y, self.width)
+                self.rows[y] = blended_row(self.rows[y], runs, colour)
+                place_count += sum([end - start for start, end, n in runs])
+        self.outline = Outline()
+        return place_count
+
+    def within(self, rule, x, y):
+        if not (is_rule(rule) and 0 <= x < self.width and 0 <= y < self.height):
+            return OUT_OF_RANGE
+        return samples_within(self.outline.lines(), rule, x, y)
+
+    def row(self, y):
+        """All that the call row answers."""
+        if not 0 <= y < self.height:
+            return [OUT_OF_RANGE]
+        return [0] + self.rows[y]
+
+    def box(self):
+        """All that the call box answers."""
+        points = self.outline.points()
+        if len(points) == 0:
+            return [REFUSED]
+        xs = [x for x, y in points]
+        ys = [y for x, y in points]
+        return [0, min(xs), min(ys), max(xs), max(ys)]
+
 
 def answer_call(picture, call, numbers):
     """What one call answers, number by number."""
@@ -99,8 +142,16 @@ def answer_call(picture, call, numbers):
         return [picture.move(numbers[0], numbers[1])]
     if call == LINE_CALL:
         return [picture.line(numbers[0], numbers[1])]
-    # The one call that is left is 5, curve.
-    return [picture.curve(numbers[0], numbers[1], numbers[2], numbers[3])]
+    if call == CURVE_CALL:
+        return [picture.curve(numbers[0], numbers[1], numbers[2], numbers[3])]
+    if call == FILL_CALL:
+        return [picture.fill(numbers[0], numbers[1])]
+    if call == WITHIN_CALL:
+        return [picture.within(numbers[0], numbers[1], numbers[2])]
+    if call == ROW_CALL:
+        return picture.row(numbers[0])
+    # The one call that is left is 9, box.
+    return picture.box()
 
 
 def answers(calls):

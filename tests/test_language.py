@@ -33,7 +33,27 @@ BANNED_WORDS = (
     r"|namedtuple|NamedTuple|TypedDict|TYPE_CHECKING|abstractmethod)\b|dataclass|overload|contextmanager"
 )
 PYTHONS_OWN = set(dir(__builtins__)) if not isinstance(__builtins__, dict) else set(__builtins__)
+WALKED = set("zip enumerate reversed range".split())
+WALKERS = set("list tuple dict sorted sum any all enumerate zip min max".split())
 OWN_ATTRIBUTES = {name for kind in (str, int, list, tuple, dict, set, bytes) for name in dir(kind)}
+
+
+def is_walked(node):
+    """Whether a call gives something that must be walked on the spot."""
+    if not isinstance(node, ast.Call):
+        return False
+    if isinstance(node.func, ast.Name):
+        return node.func.id in WALKED
+    return node.func.attr in ("items", "keys", "values")
+
+
+def walked_on_the_spot(tree):
+    """The nodes that stand where they are walked at once."""
+    for node in ast.walk(tree):
+        if isinstance(node, (ast.For, ast.comprehension)):
+            yield node.iter
+        elif isinstance(node, ast.Call) and isinstance(node.func, ast.Name) and node.func.id in WALKERS:
+            yield from node.args[:1]
 
 
 def bound_names(tree):
@@ -85,6 +105,31 @@ class TestLanguage(unittest.TestCase):
                     self.assertEqual(node.orelse, [], path)
                 if isinstance(node, ast.Constant):
                     self.assertNotIsInstance(node.value, (float, bytes, complex), path)
+
+    def test_comprehensions_are_plain(self):
+        for path, tree in self.trees.items():
+            for node in ast.walk(tree):
+                if isinstance(node, ast.ListComp):
+                    self.assertEqual(len(node.generators), 1, f"{path}: {node.lineno}")
+                    self.assertLessEqual(len(node.generators[0].ifs), 1, f"{path}: {node.lineno}")
+
+    def test_walked_at_once(self):
+        for path, tree in self.trees.items():
+            allowed = list(walked_on_the_spot(tree))
+            for node in ast.walk(tree):
+                if is_walked(node):
+                    self.assertIn(node, allowed, f"{path}: {node.lineno}")
+
+    def test_no_name_is_a_method_and_a_value(self):
+        methods = set()
+        stored = set()
+        for tree in self.trees.values():
+            for node in ast.walk(tree):
+                if isinstance(node, ast.ClassDef):
+                    methods |= {part.name for part in node.body if isinstance(part, ast.FunctionDef)}
+                if isinstance(node, ast.Attribute) and isinstance(node.ctx, ast.Store):
+                    stored.add(node.attr)
+        self.assertEqual(methods & stored, set())
 
     def test_imports_are_the_packages_own(self):
         for path, tree in self.trees.items():

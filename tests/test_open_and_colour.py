@@ -2,7 +2,7 @@
 
 import unittest
 
-from asking import HIGHEST, LOWEST, ask, colour, line, move, opened
+from asking import HIGHEST, LOWEST, ask, colour, colours, line, move, opened
 from outlinefill.picture import Picture
 
 
@@ -132,10 +132,8 @@ class TestColour(unittest.TestCase):
     def test_every_box_of_a_small_picture(self):
         boxes = [(x, y, w, h) for x in range(4) for y in range(3) for w in range(4 - x) for h in range(3 - y)]
         for x, y, w, h in boxes:
-            picture = picture_of(3, 2)
-            self.assertEqual(picture.paint(x, y, w, h, 8), 0)
             due = [[8 if x <= i < x + w and y <= j < y + h else 0 for i in range(3)] for j in range(2)]
-            self.assertEqual(picture.rows, due)
+            self.assertEqual(colours(3, 2, colour(x, y, w, h, 8)), due)
 
     def test_a_refused_colour_changes_nothing(self):
         picture = picture_of(3, 2)
